@@ -36,6 +36,12 @@ class Field:
         self.powers = powers_of_g()
         self.exponents = exponents_of(self.powers)
 
+    def product(self, a, b):
+        # 0 is no power of g, so it has no exponent.
+        if a == 0 or b == 0:
+            return 0
+        return self.powers[(self.exponents[a] + self.exponents[b]) % ORDER]
+
     def times_power(self, row, exponent):
         powers = self.powers
         exponents = self.exponents

@@ -1,6 +1,6 @@
 """Groups: parts, their rows, their packets, and how they are had back."""
 
-from lossline.limits import LENGTH_BYTES, LONGEST_PART
+from lossline.limits import CANNOT_BE, LENGTH_BYTES, LONGEST_PART
 from lossline.words import absent_row
 
 
@@ -27,6 +27,11 @@ class GroupCode:
         self.field = field
         self.k = k
         self.r = r
+
+    def refusal_or_zero(self, parts):
+        if len(parts) != self.k or any([len(part) > LONGEST_PART for part in parts]):
+            return CANNOT_BE
+        return 0
 
     def packets_from_k(self, parts):
         width = max([len(part) for part in parts]) + LENGTH_BYTES

@@ -41,6 +41,9 @@ class PacketQueue:
     def packets_of(self, group):
         return self.packets.get(group, {})
 
+    def numbers_there(self):
+        return sorted(self.packets_of(self.next_group))
+
     def take(self, group, number, content):
         packets = self.packets.setdefault(group, {})
         packets[number] = content

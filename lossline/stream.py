@@ -11,6 +11,9 @@ BEGIN = 0
 SEND = 1
 TAKE = 2
 SENT = 3
+WANTS = 4
+MUL = 5
+GROUP = 6
 
 
 class UnknownCall(ValueError):
@@ -20,16 +23,17 @@ class UnknownCall(ValueError):
 class Stream:
     def __init__(self):
         self.field = Field()
-        code = GroupCode(self.field, 1, 0)
-        self.sender = Sender(code)
-        self.queue = PacketQueue(code, 1)
+        self.cut_anew(1, 0, 1)
+
+    def cut_anew(self, k, r, w):
+        self.code = GroupCode(self.field, k, r)
+        self.sender = Sender(self.code)
+        self.queue = PacketQueue(self.code, w)
 
     def begin(self, k, r, w):
         if k < 1 or k > MOST_PARTS or r > MOST_MORE or w < 1 or w > LONGEST_WAIT:
             return laid_out(CANNOT_BE, [])
-        code = GroupCode(self.field, k, r)
-        self.sender = Sender(code)
-        self.queue = PacketQueue(code, w)
+        self.cut_anew(k, r, w)
         return laid_out(0, [])
 
     def send(self, part):
@@ -49,6 +53,19 @@ class Stream:
     def sent(self):
         return laid_out(0, [[self.sender.group_now, len(self.sender.parts)]])
 
+    def wants(self):
+        queue = self.queue
+        return laid_out(0, [[queue.next_group, queue.next_part, queue.latest_group], queue.numbers_there()])
+
+    def mul(self, a, b):
+        return laid_out(self.field.product(a, b), [])
+
+    def group(self, parts):
+        refusal = self.code.refusal_or_zero(parts)
+        if refusal < 0:
+            return laid_out(refusal, [])
+        return laid_out(0, self.code.packets_from_k(parts))
+
 
 def answer_of(stream, call, numbers, lists):
     if call == BEGIN:
@@ -59,6 +76,12 @@ def answer_of(stream, call, numbers, lists):
         return stream.take(numbers[0], numbers[1], lists[0])
     if call == SENT:
         return stream.sent()
+    if call == WANTS:
+        return stream.wants()
+    if call == MUL:
+        return stream.mul(numbers[0], numbers[1])
+    if call == GROUP:
+        return stream.group(lists)
     raise UnknownCall("no such call")
 
 

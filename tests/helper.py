@@ -1,11 +1,25 @@
 """What the tests share: calls and answers as lists, and a second, slow writing of the document to compare with."""
 
 import itertools
+import unittest
 
 from lossline.stream import answers
 
 MOST = 18446744073709551615
 LOST = None
+
+
+class Case(unittest.TestCase):
+    """Tells where two lists first differ: what unittest tells of long ones by itself takes minutes."""
+
+    def assertListEqual(self, found, wanted, msg=None):
+        if found == wanted:
+            return
+        place = 0
+        while place < min(len(found), len(wanted)) and found[place] == wanted[place]:
+            place += 1
+        told = f"at place {place}: {found[place:place + 1]!r:.500} is not {wanted[place:place + 1]!r:.500}"
+        self.fail(self._formatMessage(msg, f"lists of {len(found)} and {len(wanted)} differ, first {told}"))
 
 
 def begin(k, r, w):
@@ -22,6 +36,18 @@ def take(group, number, content):
 
 def sent():
     return [3, 0, 0]
+
+
+def wants():
+    return [4, 0, 0]
+
+
+def mul(a, b):
+    return [5, 2, a, b, 0]
+
+
+def group(parts):
+    return [6, 0, len(parts)] + [number for part in parts for number in [len(part)] + list(part)]
 
 
 def split_answers(flat):
@@ -61,6 +87,10 @@ def parts_in(answer):
     for part in found:
         assert part == [1] or part[0] == 0, "neither a part nor a lost one"
     return [LOST if part == [1] else part[1:] for part in found]
+
+
+def bytes_of(length, start=0):
+    return [(start + 37 * i) % 256 for i in range(length)]
 
 
 def packets_of_stream(k, r, w, parts):
@@ -185,21 +215,23 @@ class Model:
         if not (1 <= k <= 32 and 0 <= r <= 16 and 1 <= w <= 16):
             return [-1]
         self.k, self.r, self.w = k, r, w
-        self.group, self.parts = 0, []
+        self.group_now, self.parts = 0, []
         self.following, self.part, self.latest, self.held = 0, 0, 0, {}
         return [0]
 
     def send(self, part):
         if len(part) > 64:
             return [-1]
-        made = [[self.group, len(self.parts)] + part]
-        self.parts.append(part)
+        made = [[self.group_now, len(self.parts)] + part]
+        self.parts = self.parts + [part]
         if len(self.parts) == self.k:
-            length = max(map(len, self.parts)) + 2
-            rows = [row_of(one, length) for one in self.parts]
-            made += [[self.group, number] + content for number, content in made_group(self.k, self.r, rows).items()]
-            self.group, self.parts = self.group + 1, []
-        return self.laid_out(made)
+            made += [[self.group_now, number] + content for number, content in self.packets_from_k(self.parts).items()]
+            self.group_now, self.parts = self.group_now + 1, []
+        return self.laid_out(len(made), made)
+
+    def packets_from_k(self, parts):
+        length = max(map(len, parts)) + 2
+        return made_group(self.k, self.r, [row_of(part, length) for part in parts])
 
     def take(self, group, number, content):
         if group >= 2 ** 32 or number >= self.k + self.r or len(content) > (64 if number < self.k else 66):
@@ -210,7 +242,8 @@ class Model:
             return [-6]
         self.held[group, number] = content
         self.latest = max(self.latest, group)
-        return self.laid_out(self.give())
+        given = self.give()
+        return self.laid_out(len(given), given)
 
     def give(self):
         given = []
@@ -230,8 +263,20 @@ class Model:
         return given
 
     def sent(self):
-        return [0, 2, self.group, len(self.parts)]
+        return self.laid_out(0, [[self.group_now, len(self.parts)]])
+
+    def wants(self):
+        there = sorted(number for (group, number) in self.held if group == self.following)
+        return self.laid_out(0, [[self.following, self.part, self.latest], there])
+
+    def mul(self, a, b):
+        return [product(a, b)]
+
+    def group(self, parts):
+        if len(parts) != self.k or max(map(len, parts)) > 64:
+            return [-1]
+        return self.laid_out(0, list(self.packets_from_k(parts).values()))
 
     @staticmethod
-    def laid_out(lists):
-        return [len(lists)] + [value for one in lists for value in [len(one)] + one]
+    def laid_out(first, lists):
+        return [first] + [value for one in lists for value in [len(one)] + one]

@@ -2,7 +2,7 @@
 
 import unittest
 
-from tests.helper import LOST, MOST, begin, parts_in, run, send, sent, take
+from tests.helper import LOST, MOST, Case, begin, parts_in, run, send, sent, take
 
 CAN_BE = [(1, 0, 1), (32, 0, 1), (1, 16, 1), (1, 0, 16), (32, 16, 16), (1, 16, 16), (32, 0, 16), (32, 16, 1), (5, 3, 2)]
 CANNOT_BE = [
@@ -13,7 +13,7 @@ CANNOT_BE = [
 ]
 
 
-class Begin(unittest.TestCase):
+class Begin(Case):
     def test_can_be(self):
         for cut in CAN_BE:
             with self.subTest(cut=cut):

@@ -208,6 +208,59 @@ class Language(unittest.TestCase):
             if isinstance(node.func, ast.Name) and node.func.id in walks:
                 self.assertIn(id(node), fine, where)
 
+    def test_what_the_program_does_without(self):
+        # Rules L13, L19, L21, L22 and L24 bound these; without them nothing is left to bound.
+        for where, node in self.each_node(ast.Try, ast.Lambda, ast.keyword, ast.AnnAssign, ast.Set):
+            self.fail(f"{where}: {ast.dump(node)}")
+        for where, node in self.each_node(ast.FunctionDef):
+            self.assertIsNone(node.returns, where)
+            self.assertTrue(all(arg.annotation is None for arg in node.args.args), where)
+        for where, node in self.each_node(ast.Name):
+            self.assertNotIn(node.id, ("set", "frozenset"), where)
+
+    def test_functions_within_functions_and_classes_within_anything(self):
+        for path, tree in self.trees.items():
+            tops = [node for node in tree.body if isinstance(node, (ast.FunctionDef, ast.ClassDef))]
+            methods = [method for node in tops if isinstance(node, ast.ClassDef) for method in node.body]
+            found = [node for node in ast.walk(tree) if isinstance(node, (ast.FunctionDef, ast.ClassDef))]
+            self.assertLessEqual({id(node) for node in found}, {id(node) for node in tops + methods}, path.name)
+
+    def test_classes(self):
+        methods_seen = {}
+        for where, node in self.each_node(ast.ClassDef):
+            self.assertTrue(all(isinstance(part, (ast.FunctionDef, ast.Pass)) for part in node.body), where)
+            self.assertTrue(all(isinstance(base, ast.Name) and base.id in ERRORS for base in node.bases), where)
+            self.assertLessEqual(len(node.bases), 1, where)
+            methods_seen[node.name] = [method.name for method in node.body if isinstance(method, ast.FunctionDef)]
+            self.assertEqual(len(methods_seen[node.name]), len(set(methods_seen[node.name])), where)
+            self.assertTrue(all(name == "__init__" or PLAIN.match(name) for name in methods_seen[node.name]), where)
+        called = {id(node.func) for _, node in self.each_node(ast.Call)}
+        called |= {id(base) for _, node in self.each_node(ast.ClassDef) for base in node.bases}
+        for where, node in self.each_node(ast.Name):
+            if node.id in methods_seen:
+                self.assertIn(id(node), called, f"{where}: a class is handed on")
+
+    def test_methods_and_python_s_own_are_called_where_they_stand(self):
+        methods, _ = own_methods_and_values(self.trees.values())
+        called = {id(node.func) for _, node in self.each_node(ast.Call)}
+        bases = {id(base) for _, node in self.each_node(ast.ClassDef) for base in node.bases}
+        for where, node in self.each_node(ast.Attribute):
+            if node.attr in methods | set(METHODS):
+                self.assertIn(id(node), called, where)
+        for where, node in self.each_node(ast.Name):
+            if node.id in OWN_NAMES:
+                self.assertIn(id(node), called | bases, where)
+
+    def test_what_a_loop_walks_is_not_changed_in_it(self):
+        changes = "append clear extend insert pop remove reverse setdefault update".split()
+        for where, loop in self.each_node(ast.For):
+            walked = {ast.unparse(node) for node in ast.walk(loop.iter) if isinstance(node, (ast.Name, ast.Attribute))}
+            for node in [inner for statement in loop.body for inner in ast.walk(statement)]:
+                if isinstance(node, ast.Attribute) and node.attr in changes:
+                    self.assertNotIn(ast.unparse(node.value), walked, where)
+                elif isinstance(node, ast.Subscript) and isinstance(node.ctx, ast.Store):
+                    self.assertNotIn(ast.unparse(node.value), walked, where)
+
 
 if __name__ == "__main__":
     unittest.main()

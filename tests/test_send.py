@@ -6,16 +6,12 @@ import unittest
 from lossline.field import Field
 from lossline.groups import GroupCode
 from lossline.sender import Sender
-from tests.helper import (Model, begin, is_word, packets_in, product, row_of, run, send, sent, take)
+from tests.helper import Case, Model, begin, bytes_of, is_word, packets_in, product, row_of, run, send, sent, take
 
 LAST_GROUP = 2 ** 32 - 1
 
 
-def bytes_of(length, start=0):
-    return [(start + 37 * i) % 256 for i in range(length)]
-
-
-class Send(unittest.TestCase):
+class Send(Case):
     def test_in_the_midst_of_a_group(self):
         self.assertEqual(run([begin(3, 2, 1), send([5, 6]), send([])])[1:], [[1, 4, 0, 0, 5, 6], [1, 2, 0, 1]])
 
@@ -105,7 +101,7 @@ class Send(unittest.TestCase):
             self.assertEqual(run([begin(k, r, 1)] + [send(part) for part in parts]), wanted)
 
 
-class LastGroup(unittest.TestCase):
+class LastGroup(Case):
     """No list of calls is long enough to come here, so the sender is asked itself."""
 
     def sender_at(self, group):
@@ -127,7 +123,7 @@ class LastGroup(unittest.TestCase):
         self.assertEqual(sender.refusal_or_zero([0] * 65), -1)
 
 
-class Sent(unittest.TestCase):
+class Sent(Case):
     def test_at_the_beginning(self):
         self.assertEqual(run([sent()]), [[0, 2, 0, 0]])
         self.assertEqual(run([begin(4, 1, 1), sent()])[1], [0, 2, 0, 0])

@@ -4,11 +4,11 @@ import itertools
 import random
 import unittest
 
-from tests.helper import (INVERSES, LOST, PRODUCTS, Model, all_given_by, begin, given_by, made_group, packets_of_stream,
-                          row_of, run, take)
+from tests.helper import (INVERSES, LOST, PRODUCTS, Case, Model, all_given_by, begin, given_by, made_group,
+                          packets_of_stream, row_of, run, take)
 
 
-class AnyKPackets(unittest.TestCase):
+class AnyKPackets(Case):
     """P1: any k packets of a group tell it."""
 
     def test_every_choice(self):
@@ -55,7 +55,7 @@ class AnyKPackets(unittest.TestCase):
         self.assertEqual(found, [[], [], [[1], [2, 2], [3]]])
 
 
-class NotHadBack(unittest.TestCase):
+class NotHadBack(Case):
     def test_different_lengths_from_k_on(self):
         packets = packets_of_stream(2, 3, 1, [[1, 2], [3]])
         longer = (0, 3, packets[3][2] + [0])
@@ -137,7 +137,7 @@ class NotHadBack(unittest.TestCase):
         self.assertEqual(found, [[], [], [LOST, [1]]])
 
 
-class LikeTheModel(unittest.TestCase):
+class LikeTheModel(Case):
     def test_any_packets(self):
         draw = random.Random(4)
         had = 0

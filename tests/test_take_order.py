@@ -6,14 +6,14 @@ import unittest
 from lossline.field import Field
 from lossline.groups import GroupCode
 from lossline.packet_queue import PacketQueue
-from tests.helper import LOST, Model, all_given_by, begin, given_by, packets_of_stream, run, send, sent, take
+from tests.helper import LOST, Case, all_given_by, begin, given_by, packets_of_stream, run, take
 
 
 def parts_of_stream(draw, count, longest):
     return [[draw.randrange(256) for _ in range(draw.randint(0, longest))] for _ in range(count)]
 
 
-class InOrder(unittest.TestCase):
+class InOrder(Case):
     """P4: what comes in order is given at once."""
 
     def test_each_part_with_its_packet(self):
@@ -33,7 +33,7 @@ class InOrder(unittest.TestCase):
         self.assertEqual(run([begin(2, 1, 1), take(0, 1, [5])])[1], [0])
 
 
-class Lost(unittest.TestCase):
+class Lost(Case):
     def test_written_out(self):
         self.assertEqual(run([begin(3, 0, 1), take(0, 1, [5]), take(1, 0, [6])])[1:],
                          [[0], [4, 1, 1, 2, 0, 5, 1, 1, 2, 0, 6]])
@@ -80,7 +80,7 @@ class Lost(unittest.TestCase):
         self.assertEqual(found, [[], [], [], [[], [0]], [LOST, [1]]])
 
 
-class PartsAheadOfTheGroup(unittest.TestCase):
+class PartsAheadOfTheGroup(Case):
     """Parts that are given while their group is not had back yet."""
 
     def test_given_once(self):
@@ -120,7 +120,7 @@ def with_doubles(draw, packets):
     return found
 
 
-class WhateverComes(unittest.TestCase):
+class WhateverComes(Case):
     def check_order(self, parts, given):
         """P2: the parts in order, each it or lost."""
         self.assertLessEqual(len(given), len(parts))
@@ -190,47 +190,6 @@ class WhateverComes(unittest.TestCase):
                 self.assertTrue(all(queue.next_group <= group < queue.next_group + w for group in held))
                 self.assertLessEqual(len(queue.packets), w)
                 self.assertTrue(all(len(queue.packets[group]) < k + r + 1 for group in held))
-
-    def test_like_the_model(self):
-        draw = random.Random(8)
-        for turn in range(250):
-            with self.subTest(turn=turn):
-                calls, wanted = self.drawn_calls(draw)
-                self.assertEqual(run(calls), wanted)
-
-    def drawn_calls(self, draw):
-        """Calls of all kinds, most of which bring what was sent, and what the model answers to them."""
-        model = Model()
-        calls, wanted, on_the_line = [], [], [(0, 0, [])]
-        for _ in range(draw.randint(1, 120)):
-            kind = draw.random()
-            if kind < 0.02 or not calls:
-                cut = (draw.randint(0, 4), draw.randint(0, 3), draw.randint(0, 4))
-                calls.append(begin(*cut))
-                wanted.append(model.begin(*cut))
-            elif kind < 0.45:
-                part = [draw.randrange(256) for _ in range(draw.choice([0, 1, 2, 3, 64, 65]) if draw.random() < 0.1 else 2)]
-                calls.append(send(part))
-                wanted.append(model.send(part))
-                if wanted[-1][0] > 0:
-                    place = 1
-                    while place < len(wanted[-1]):
-                        length = wanted[-1][place]
-                        packet = wanted[-1][place + 1:place + 1 + length]
-                        on_the_line.append((packet[0], packet[1], packet[2:]))
-                        place += 1 + length
-            elif kind < 0.5:
-                calls.append(sent())
-                wanted.append(model.sent())
-            else:
-                group, number, content = draw.choice(on_the_line[-draw.choice([1, 5, 20]):])
-                if draw.random() < 0.15:
-                    group += draw.choice([0, 1, 62, 63, 64, 65, 2 ** 32])
-                    number += draw.randint(0, 2)
-                    content = content + [draw.randrange(256)] * draw.randint(0, 2)
-                calls.append(take(group, number, content))
-                wanted.append(model.take(group, number, content))
-        return calls, wanted
 
 
 if __name__ == "__main__":

@@ -2,7 +2,7 @@
 
 import unittest
 
-from tests.helper import MOST, begin, given_by, packets_of_stream, parts_in, run, send, sent, take
+from tests.helper import MOST, Case, begin, given_by, packets_of_stream, parts_in, run, send, sent, take
 
 BEFORE = [begin(3, 2, 4), take(0, 0, [1]), take(0, 1, [2]), take(0, 2, [3]), take(1, 0, [4]), take(1, 4, [5, 0, 6]),
           take(2, 1, [7])]
@@ -10,7 +10,7 @@ AFTER = [take(1, 0, [4]), take(1, 2, [8]), take(1, 4, [1]), take(2, 1, []), take
          take(4, 0, [3]), take(6, 1, [1]), send([1]), sent()]
 
 
-class Refusals(unittest.TestCase):
+class Refusals(Case):
     def refusal(self, group, number, content):
         """What this take answers behind BEFORE, where the next group is 1; it must change nothing if refused."""
         found = run(BEFORE + [take(group, number, content)] + AFTER)
